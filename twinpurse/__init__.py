@@ -1,0 +1,1 @@
+"""Twinpurse: everything that programs with two purses can come to."""
