@@ -1,6 +1,7 @@
 """What the tests share: ways to spoil a value, and moves made slowly, straight from the document."""
 
 import itertools
+import random
 
 NOT_INTEGERS = (True, False, None, "0", "", (0,), [0], {}, 1.0)
 NOT_TUPLES = (None, True, False, 0, 1, "", "text", {}, set(), b"ab")
@@ -96,3 +97,124 @@ STEPS_ALONE = (3, ((0, 1, -2, -2), (1, 2, 2, 2), (2, 0, 0, 1), (1, 1, -1, 0)), (
 TESTS_ALONE = (3, (), ((0, 2), (2, 0)))
 PROGRAMS = (EMPTY, COUNTER, PAIR, TRIANGLE, STEPS_ALONE, TESTS_ALONE)
 NO_PROGRAMS = ((), [], None, "rooms 1", (4, (), ()), (1, ((0, 0, 3, 0),), ()), [1, (), ()])
+
+
+def slow_spell(road, counts):
+    """Tell the word of a road as point 6 of the document says it."""
+    word = ()
+    for part in road:
+        times = 1 if part[0] == "walk" else sum(c * x for c, x in zip(part[2], (1,) + counts))
+        word += part[1] * times
+    return word
+
+
+def slow_is_road_form(program, road, size):
+    """Whether a road has the form of point 6, with walks and rings of the program, for so many counts."""
+    moves = range(len(program[1]) + len(program[2]))
+    ends = sources_and_targets(program)
+    for part in road:
+        word = part[1]
+        if not all(move in moves for move in word) or not slow_is_walk(program, word):
+            return False
+        if part[0] == "ring":
+            if not word or ends[word[0]][0] != ends[word[-1]][1]:
+                return False
+            if len(part[2]) != 1 + size or min(part[2]) < 0:
+                return False
+    return True
+
+
+def counts_up_to(most, size):
+    return itertools.product(range(most + 1), repeat=size)
+
+
+def slow_is_road(program, start, fan, road, tried):
+    """Whether a road is right, as far as the counts that are tried tell."""
+    room, base, rays = fan
+    if not slow_is_road_form(program, road, len(rays)):
+        return False
+    for counts in tried:
+        first = base[0] + sum(count * ray[0] for count, ray in zip(counts, rays))
+        second = base[1] + sum(count * ray[1] for count, ray in zip(counts, rays))
+        if slow_play(program, start, slow_spell(road, counts)) != (room, first, second):
+            return False
+    return True
+
+
+def slow_leaf(tree, counts):
+    """Go down a tree as point 9 of the document says it."""
+    while tree[0] not in ("out", "in"):
+        if tree[0] == "less":
+            _, index, trees, rest = tree
+            if counts[index] < len(trees):
+                tree, counts = trees[counts[index]], counts[:index] + counts[index + 1:]
+            else:
+                tree, counts = rest, tuple(c - len(trees) if at == index else c for at, c in enumerate(counts))
+        elif tree[0] == "rest":
+            _, index, trees = tree
+            tree = trees[counts[index] % len(trees)]
+            counts = tuple(c // len(trees) if at == index else c for at, c in enumerate(counts))
+        else:
+            x, y = counts
+            tree, counts = (tree[1], (x, y - x)) if x <= y else (tree[2], (x - y - 1, y))
+    return tree, counts
+
+
+def search_up_to(program, start, most):
+    """Return the standings found with at most so much in both purses together, and whether these are all."""
+    found, waiting, whole = {start}, [start], True
+    moves = range(len(program[1]) + len(program[2]))
+    while waiting:
+        standing = waiting.pop()
+        for move in moves:
+            led = slow_make(program, standing, move)
+            if led is not None and led not in found:
+                if led[1] + led[2] > most:
+                    whole = False
+                else:
+                    found.add(led)
+                    waiting.append(led)
+    return found, whole
+
+
+def seen(lot, most):
+    """Return the set of standings of the lot with less than so much in each purse, by going along its rays."""
+    found = set()
+    for room, base, rays in lot:
+        line = along(base, rays[0], most) if rays else [base]
+        for point in line:
+            for a, b in along(point, rays[1], most) if len(rays) == 2 else [point]:
+                if a < most and b < most:
+                    found.add((room, a, b))
+    return found
+
+
+def along(point, ray, most):
+    a, b = point
+    while a < most and b < most:
+        yield (a, b)
+        a, b = a + ray[0], b + ray[1]
+
+
+def drawn_program(rng, rooms=None):
+    """Draw a program of which the rooms are mostly joined in a circle."""
+    rooms = rooms or rng.choice((1, 1, 2, 2, 2, 3))
+    steps = []
+    for at in range(rng.choice((2, 3, 4, 4, 4))):
+        source, target = rng.randrange(rooms), rng.randrange(rooms)
+        if rng.random() < 0.5:
+            source, target = at % rooms, (at + 1) % rooms
+        steps.append((source, target, rng.randint(-2, 2), rng.randint(-2, 2)))
+    tests = [(rng.randrange(rooms), rng.randrange(rooms)) for _ in range(rng.choice((0, 1, 1, 2)))]
+    return (rooms, tuple(steps), tuple(tests))
+
+
+def drawn_start(rng, program, most=4):
+    return (rng.randrange(program[0]), rng.randint(0, most), rng.randint(0, most))
+
+
+def drawn_cases(seed, many):
+    rng = random.Random(seed)
+    for _ in range(many):
+        program = drawn_program(rng)
+        yield program, drawn_start(rng, program)

@@ -8,7 +8,7 @@ import pathlib
 import unittest
 
 from tests import helper
-from twinpurse import fans, programs, runs
+from twinpurse import fans, lots, programs, reach, roads, runs, tables
 from twinpurse.errors import BadArgument, BadProgram, BadStanding
 
 FOLDER = pathlib.Path(__file__).resolve().parent.parent / "twinpurse"
@@ -26,6 +26,21 @@ INTERFACE = {
     "fans": {
         "check_fan": ["fan"], "check_lot": ["lot"], "standing_at": ["fan", "counts"],
         "counts_of": ["fan", "standing"], "has": ["lot", "standing"],
+    },
+    "roads": {
+        "is_road": ["program", "start", "fan", "road"], "spell": ["road", "counts"],
+        "ride": ["program", "start", "road", "counts"],
+    },
+    "tables": {
+        "is_tree": ["program", "lot", "fan", "move", "tree"], "is_table": ["program", "lot", "table"],
+        "is_paper": ["program", "start", "paper"], "leaf_of": ["tree", "counts"],
+    },
+    "reach": {
+        "reach": ["program", "start"], "way": ["program", "start", "standing"], "sources": ["program", "goal"],
+    },
+    "lots": {
+        "union": ["lot", "other"], "share": ["lot", "other"], "without": ["lot", "other"], "lack": ["lot", "rooms"],
+        "least": ["lot"], "within": ["lot", "other"], "alike": ["lot", "other"], "number": ["lot"],
     },
 }
 # What a module may import from beside the package: nothing of it knows a clock, chance or files.
@@ -45,9 +60,23 @@ def is_plain(value):
     return value is None or type(value) in (int, str, bool)
 
 
+def spoil_lists(value):
+    """Change all lists in a value; tell whether there are some."""
+    spoilt = False
+    if isinstance(value, (list, tuple)):
+        spoilt = any([spoil_lists(part) for part in value])
+    if isinstance(value, list):
+        value.append(None)
+        value[0] = None
+        return True
+    return spoilt
+
+
 def calls():
     """Calls of all functions that return something, each with arguments of its own."""
     pair, fan = helper.PAIR, (2, (1, 2), ((2, 1), (1, 3)))
+    other, road, tree = (2, (0, 2), ((1, 0),)), (("ring", (0, 1), (1, 2)), ("walk", (0,))), ("out",)
+    counter, paper = helper.COUNTER, reach.reach(helper.COUNTER, (0, 1, 2))
     return [
         (programs.check_program, [pair]), (programs.check_standing, [pair, (0, 1, 2)]), (programs.turned, [pair]),
         (runs.make, [pair, (0, 3, 5), 0]), (runs.make, [pair, (0, 3, 5), 1]), (runs.play, [pair, (0, 3, 5), (0, 1)]),
@@ -57,6 +86,17 @@ def calls():
         (fans.check_fan, [fan]), (fans.check_lot, [[fan, fan]]), (fans.standing_at, [fan, (5, 1)]),
         (fans.counts_of, [fan, (2, 12, 10)]), (fans.counts_of, [fan, (2, 0, 0)]),
         (fans.has, [[fan, fan], (2, 12, 10)]), (fans.has, [[], (2, 12, 10)]),
+        (roads.is_road, [pair, (0, 1, 2), (1, (3, 0), ((2, 0),)), road]), (roads.is_road, [pair, (0, 1, 2), fan, [1]]),
+        (roads.spell, [road, (3,)]), (roads.ride, [pair, (0, 1, 9), road, (10 ** 9,)]),
+        (tables.is_tree, [pair, [fan], (1, (1, 2), ((2, 1),)), 3, tree]), (tables.leaf_of, [tree, (1, 2)]),
+        (tables.is_table, [counter, paper[0], paper[2]]), (tables.is_paper, [counter, (0, 1, 2), paper]),
+        (tables.is_paper, [counter, (0, 1, 2), [paper]]), (reach.reach, [pair, (0, 1, 2)]),
+        (reach.reach, [counter, (0, 1, 2)]), (reach.way, [counter, (0, 1, 2), (0, 0, 2)]),
+        (reach.way, [counter, (0, 1, 2), (0, 10 ** 9, 0)]), (reach.sources, [counter, (0, 1, 2)]),
+        (lots.union, [[other], [other, (0, (1, 1), ())]]), (lots.share, [[other], [other]]), (lots.lack, [[other], 3]),
+        (lots.without, [[other], [(2, (3, 2), ())]]), (lots.least, [[other]]), (lots.least, [[]]),
+        (lots.within, [[other], []]), (lots.alike, [[other], [other]]), (lots.number, [[other]]),
+        (lots.number, [[(2, (3, 2), ())]]),
     ]
 
 
@@ -80,6 +120,13 @@ class Behaviour(unittest.TestCase):
             kept = copy.deepcopy(arguments)
             called(*arguments)
             self.assertEqual(arguments, kept, called)
+
+    def test_lists_that_are_returned_are_not_shared(self):
+        for called, arguments in calls():
+            told = called(*arguments)
+            wanted = copy.deepcopy(told)
+            if spoil_lists(told):
+                self.assertEqual(called(*arguments), wanted, called)
 
     def test_what_is_returned_is_plain(self):
         for called, arguments in calls():

@@ -4,7 +4,7 @@ from twinpurse.pieces import divide, place_in, rebuilt, trees_in
 
 # Counts beyond all numbers in what is looked at, and in no ratio that two rays have:
 # a fan that has the standing with them has endlessly many around it.
-FAR = (10 ** 12 + 39, 1414213562373)
+FAR = (1000000000039, 1414213562373)
 DEEPEST = 40
 
 

@@ -5,7 +5,7 @@ from math import gcd, lcm
 from twinpurse.errors import BadArgument, TooLarge
 from twinpurse.fans import check_lot, turn_of
 from twinpurse.kinds import is_between
-from twinpurse.parts import everything, least_in, order_of, parts_inside, parts_outside
+from twinpurse.parts import everything, least_in, parts_inside, parts_outside
 from twinpurse.programs import MOST_ROOMS
 
 MOST_FANS = 4

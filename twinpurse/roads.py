@@ -4,7 +4,7 @@ from twinpurse.errors import BadArgument, BadRoad, TooLarge
 from twinpurse.fans import check_fan
 from twinpurse.kinds import are_counts, is_tuple_of, is_tuple_up_to
 from twinpurse.programs import check_program, check_standing
-from twinpurse.runs import effect_along, is_joined, is_met, is_word, moves_in, need_along
+from twinpurse.runs import effect_along, is_joined, is_word, moves_in, need_along
 from twinpurse.sums import added, is_just, is_least, raised, value_at
 
 MOST_MOVES = 100000

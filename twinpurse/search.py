@@ -100,7 +100,8 @@ class Search:
                     best = (word, fans)
         if best is None:
             return False
-        self.propose_family(found, *best, found.under)
+        word, fans = best
+        self.propose_family(found, word, fans, found.under)
         found.replaced = True
         return True
 
@@ -125,7 +126,7 @@ class Search:
             for ray, count in zip(rays, counts):
                 at = moved(at, ray, count)
             fan = (target, moved(at, (first, second), 1), rays)
-            self.propose(Found(fan, found, (move,), None, maps_from(counts, range(len(rays)))))
+            self.propose(Found(fan, found, (move,), None, maps_from(counts, list(range(len(rays))))))
 
     def replace_behind(self, found):
         """Take the words that lead from an earlier fan in the same room to this one."""
@@ -133,8 +134,10 @@ class Search:
         needed = (0, 0, False)
         counts = [0 for _ in found.fan[2]]
         at = found
-        while at.before is not None and len(word) < LONGEST_RING:
+        while at.before is not None:
             times = times_at(at.rounds, counts)
+            if len(word) + times * len(at.word) > LONGEST_RING:
+                return False
             for _ in range(times):
                 for move in reversed(at.word):
                     needed = need_ahead(self.moves[move], needed)
