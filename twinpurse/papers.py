@@ -6,10 +6,9 @@ from twinpurse.programs import MOST_ROOMS
 from twinpurse.shelves import Shelf
 from twinpurse.sums import added
 
-
-def lot_of(founds, rooms):
-    """Return what is found in an order of its own, without fans that lie in others."""
-    ordered = sorted(founds, key=lambda found: (found.fan[0], -len(found.fan[2]), sum(found.fan[1])))
+def lot_of(founds, rooms, most):
+    """Return what is found in an order of its own, without fans that lie in others, in so many pieces at most."""
+    ordered = sorted(founds, key=_place_in_lot)
     kept = []
     for room in range(rooms):
         told = [found for found in ordered if found.fan[0] == room]
@@ -17,11 +16,16 @@ def lot_of(founds, rooms):
         left = []
         for number in range(len(told) - 1, -1, -1):
             shelf.take_out(number)
-            if cover(told[number].fan, shelf) is None:
+            if cover(told[number].fan, shelf, most) is None:
                 shelf.put_back(number)
                 left.append(told[number])
         kept.extend(left[::-1])
     return kept
+
+
+def _place_in_lot(found):
+    room, base, rays = found.fan
+    return (room, -len(rays), base[0] + base[1])
 
 
 def road_to(found):

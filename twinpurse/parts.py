@@ -8,7 +8,7 @@ ALL_PAIRS = ((1, 0), (0, 1))
 def parts_outside(fans, others):
     """Return a list of fans with the standings of fans that are in none of the others."""
     # What takes away most goes first, so that there are fewer pieces.
-    ordered = sorted(others, key=lambda fan: -len(fan[2]))
+    ordered = sorted(others, key=_fewer_rays_later)
     found = []
     for fan in fans:
         pieces = [fan]
@@ -40,6 +40,10 @@ def order_of(standing):
     """Return what is less for the lesser one of two standings."""
     room, first, second = standing
     return (first + second, first, room)
+
+
+def _fewer_rays_later(fan):
+    return -len(fan[2])
 
 
 def _left_of(piece, other):

@@ -8,6 +8,8 @@ from twinpurse.search import Search
 from twinpurse.sums import value_at
 
 MOST_AT_START = 4
+# In how many pieces a fan may lie in others, if it is to be left out: first more, then fewer.
+THINNING = (50, 1)
 
 
 def reach(program, start):
@@ -52,12 +54,18 @@ def _paper_parts(program, start):
     """Return the list of what was found, without what lies in the rest of it, and its table."""
     search = Search(program)
     search.start(start)
+    search.run()
+    thinning = list(THINNING)
     while True:
-        search.run()
-        founds = lot_of(search.founds, program[0])
+        founds = lot_of(search.founds, program[0], thinning[0]) if thinning else search.founds
         table, gaps = table_of(search.moves, [found.fan for found in founds])
         if not gaps:
             return founds, table
-        # Where a fan was replaced, what lay in it may have to be looked at once more.
+        # Where a fan was replaced, what lay in it may have to be looked at once more; or
+        # too many fans were left out, and what lies in the rest would have to be cut too much.
+        many = len(search.founds)
         for index, move in gaps:
             search.take_move(founds[index], move, search.moves[move])
+        search.run()
+        if len(search.founds) == many:
+            thinning = thinning[1:]
