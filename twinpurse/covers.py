@@ -6,10 +6,9 @@ from twinpurse.pieces import divide, place_in, rebuilt, trees_in
 # a fan that has the standing with them has endlessly many around it.
 FAR = (1000000000039, 1414213562373)
 DEEPEST = 40
-MOST_LEAVES = 1000
 
 
-def cover(piece, shelf, most=MOST_LEAVES):
+def cover(piece, shelf, most):
     """Return a tree by which the counts of the piece lead into fans of the shelf.
 
     Return None if there is none, or none that is not too deep and has not more leaves than these.

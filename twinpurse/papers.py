@@ -46,8 +46,11 @@ def road_to(found):
     return tuple(parts[::-1])
 
 
-def table_of(moves, lot):
-    """Return the table of a lot, and the list of gaps: pairs of a fan's index and a move that leads out of the lot."""
+def table_of(moves, lot, most):
+    """Return the table of a lot, and the list of gaps: pairs of a fan's index and a move.
+
+    At a gap, the move leads out of the lot, or what it leads to is in so many pieces in it that none is told.
+    """
     shelves, numbers = _shelves_of(lot)
     table = []
     gaps = []
@@ -55,10 +58,10 @@ def table_of(moves, lot):
         trees = []
         for move, told in enumerate(moves):
             if told[0] == fan[0]:
-                tree = _tree_behind(told, shelves[told[1]], numbers[told[1]], fan)
+                tree = _tree_behind(told, fan, shelves[told[1]], most)
                 if tree is None:
                     gaps.append((index, move))
-                trees.append(tree)
+                trees.append(None if tree is None else _renumbered(tree, numbers[told[1]]))
         table.append(tuple(trees))
     return table, gaps
 
@@ -77,23 +80,22 @@ def _shelves_of(lot):
     return [Shelf([lot[index] for index in told]) for told in numbers], numbers
 
 
-def _tree_behind(told, shelf, numbers, fan):
+def _tree_behind(told, fan, shelf, most):
     """Return the tree for a move from a fan, or None if it leads out of the lot."""
     _, _, first, second, is_test = told
     conditions = [(0, -1, 0)] if is_test else [(first, 1, 0), (second, 0, 1)]
-    tree = _led(cut(fan, conditions, []), told, shelf)
-    return None if tree is None else _renumbered(tree, numbers)
+    return _led(cut(fan, conditions, []), told, shelf, most)
 
 
-def _led(tree, told, shelf):
+def _led(tree, told, shelf, most):
     if tree[0] == "out":
         return ("out",)
     if tree[0] == "in":
         _, base, rays = tree[1]
-        return cover((told[1], moved(base, told[2:4], 1), rays), shelf)
+        return cover((told[1], moved(base, told[2:4], 1), rays), shelf, most)
     parts = []
     for part in trees_in(tree):
-        led = _led(part, told, shelf)
+        led = _led(part, told, shelf, most)
         if led is None:
             return None
         parts.append(led)

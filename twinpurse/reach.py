@@ -8,8 +8,9 @@ from twinpurse.search import Search
 from twinpurse.sums import value_at
 
 MOST_AT_START = 4
-# In how many pieces a fan may lie in others, if it is to be left out: first more, then fewer.
-THINNING = (50, 1)
+# In how many pieces a fan may lie in others, if it is to be left out, and how many leaves a cover
+# of what a move leads to may have: if a table cannot be made so, it is tried with the next ones.
+ATTEMPTS = ((50, 1000), (1, 1000), (1, 20000))
 
 
 def reach(program, start):
@@ -55,17 +56,25 @@ def _paper_parts(program, start):
     search = Search(program)
     search.start(start)
     search.run()
-    thinning = list(THINNING)
+    tried = 0
     while True:
-        founds = lot_of(search.founds, program[0], thinning[0]) if thinning else search.founds
-        table, gaps = table_of(search.moves, [found.fan for found in founds])
+        founds, table, gaps = _thinned(search, *ATTEMPTS[tried])
         if not gaps:
             return founds, table
         # Where a fan was replaced, what lay in it may have to be looked at once more; or
-        # too many fans were left out, and what lies in the rest would have to be cut too much.
+        # what lies in the rest would have to be cut too much, since too much was left out.
         many = len(search.founds)
         for index, move in gaps:
             search.take_move(founds[index], move, search.moves[move])
-        search.run()
+        if tried < len(ATTEMPTS) - 1:
+            search.run()
+        else:
+            search.keep_waiting()
         if len(search.founds) == many:
-            thinning = thinning[1:]
+            tried += 1
+
+
+def _thinned(search, most_parts, most_leaves):
+    founds = lot_of(search.founds, search.program[0], most_parts)
+    table, gaps = table_of(search.moves, [found.fan for found in founds], most_leaves)
+    return founds, table, gaps

@@ -11,6 +11,8 @@ from twinpurse.shelves import Shelf
 from twinpurse.sums import value_at
 
 LONGEST_RING = 400
+# In how many pieces a fan may lie in others, if it is not to be looked at.
+MOST_LEAVES = 1000
 
 
 class Found:
@@ -72,21 +74,28 @@ class Search:
                 self.look_at(found)
 
     def is_covered(self, fan):
-        return cover(fan, self.shelves[fan[0]]) is not None
+        return cover(fan, self.shelves[fan[0]], MOST_LEAVES) is not None
 
     def look_at(self, found):
         """Replace the fan by others with more rays, or one before it; otherwise keep it and go on from it."""
         room = found.fan[0]
-        if self.replace_by_rings(found, self.rings[room]) or self.replace_behind(found):
-            return
-        self.keep(found)
-        for move, told in enumerate(self.moves):
-            if told[0] == room:
-                self.take_move(found, move, told)
+        if not self.replace_by_rings(found, self.rings[room]) and not self.replace_behind(found):
+            self.keep(found)
 
     def keep(self, found):
+        """Keep a fan, and make all moves from it."""
         self.founds.append(found)
         self.shelves[found.fan[0]].put(found.fan)
+        for move, told in enumerate(self.moves):
+            if told[0] == found.fan[0]:
+                self.take_move(found, move, told)
+
+    def keep_waiting(self):
+        """Keep all that waits, although it lies in what was found; then go on."""
+        many = len(self.queue)
+        for _, index in [heappop(self.queue) for _ in range(many)]:
+            self.keep(self.waiting[index])
+        self.run()
 
     def replace_by_rings(self, found, rings):
         """Take rings; if one leads to fans that have the whole fan in them, they take its place."""
