@@ -3,6 +3,7 @@
 import itertools
 import random
 import unittest
+from unittest import mock
 
 from tests import helper
 from twinpurse.errors import BadArgument, BadProgram, BadStanding
@@ -31,6 +32,10 @@ HARD = (
     ((3, ((0, 1, 1, -1), (2, 0, 1, -2), (1, 2, 1, 1), (2, 1, -2, 2)), ((1, 2), (1, 1))), (0, 1, 2)),
     ((3, ((1, 1, 2, -1), (2, 0, -1, 2), (0, 1, -1, 1), (1, 2, -1, 2)), ((0, 0), (0, 1))), (2, 4, 2)),
     ((3, ((0, 1, 1, 2), (1, 2, 2, -2), (1, 0, -2, 2), (2, 0, 2, -1)), ((2, 1), (0, 1))), (2, 1, 4)),
+    ((2, ((1, 0, 2, 2), (0, 1, 2, 1), (1, 1, 2, -2), (0, 0, -1, 2)), ((0, 0), (0, 1))), (1, 3, 1)),
+    ((2, ((0, 1, 2, 1), (1, 0, 1, 1), (0, 0, 2, -1), (1, 1, -1, 2)), ((0, 0), (1, 0))), (0, 4, 4)),
+    ((2, ((1, 1, 1, 2), (0, 1, -2, 2), (0, 0, 2, 2), (1, 0, -2, -1)), ((0, 1), (1, 1))), (1, 0, 3)),
+    ((2, ((0, 1, 2, 2), (0, 1, -2, 2), (0, 1, 2, 1), (1, 0, 1, 2)), ()), (1, 4, 0)),
 )
 NO_STARTS = (None, True, "", [0, 0, 0], (0, 0), (0, 0, 0, 0), (3, 0, 0), (-1, 0, 0), (0, -1, 0), (0, 0, -1),
              (0, True, 0), (0, 0, None), ("0", 0, 0), (True, 0, 0))
@@ -96,6 +101,13 @@ class Reach(unittest.TestCase):
     def test_bounded_programs_with_many_standings(self):
         chain = (3, ((0, 0, -1, 2), (1, 1, 2, -1), (2, 2, -1, 2), (1, 2, 0, 0)), ((0, 1),))
         self.assertTrue(self.looked_at(chain, (0, 4, 4), 200))
+
+    def test_however_little_is_tried_for_small_papers(self):
+        cases = [*HARD[:6], *helper.drawn_cases(21, 60)]
+        for attempts in (((1, 20000),), ((50, 3), (1, 1000)), ((50, 3), (1, 20000), (1, 80000))):
+            with mock.patch("twinpurse.reach.ATTEMPTS", attempts):
+                for program, start in cases:
+                    self.assertIs(is_paper(program, start, reach(program, start)), True, (attempts, program, start))
 
     def test_what_was_returned_can_be_changed(self):
         for program, start in HARD[:4]:

@@ -6,6 +6,7 @@ from twinpurse.programs import MOST_ROOMS
 from twinpurse.shelves import Shelf
 from twinpurse.sums import added
 
+
 def lot_of(founds, rooms, most):
     """Return what is found in an order of its own, without fans that lie in others, in so many pieces at most."""
     ordered = sorted(founds, key=_place_in_lot)

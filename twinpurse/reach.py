@@ -10,7 +10,7 @@ from twinpurse.sums import value_at
 MOST_AT_START = 4
 # In how many pieces a fan may lie in others, if it is to be left out, and how many leaves a cover
 # of what a move leads to may have: if a table cannot be made so, it is tried with the next ones.
-ATTEMPTS = ((50, 1000), (1, 1000), (1, 20000))
+ATTEMPTS = ((50, 1000), (1, 1000), (1, 20000), (1, 80000))
 
 
 def reach(program, start):
@@ -58,7 +58,9 @@ def _paper_parts(program, start):
     search.run()
     tried = 0
     while True:
-        founds, table, gaps = _thinned(search, *ATTEMPTS[tried])
+        most_parts, most_leaves = ATTEMPTS[tried]
+        founds = lot_of(search.founds, program[0], most_parts)
+        table, gaps = table_of(search.moves, [found.fan for found in founds], most_leaves)
         if not gaps:
             return founds, table
         # Where a fan was replaced, what lay in it may have to be looked at once more; or
@@ -66,15 +68,8 @@ def _paper_parts(program, start):
         many = len(search.founds)
         for index, move in gaps:
             search.take_move(founds[index], move, search.moves[move])
-        if tried < len(ATTEMPTS) - 1:
-            search.run()
-        else:
+        if tried == len(ATTEMPTS) - 1:
             search.keep_waiting()
+        search.run()
         if len(search.founds) == many:
-            tried += 1
-
-
-def _thinned(search, most_parts, most_leaves):
-    founds = lot_of(search.founds, search.program[0], most_parts)
-    table, gaps = table_of(search.moves, [found.fan for found in founds], most_leaves)
-    return founds, table, gaps
+            tried = min(tried + 1, len(ATTEMPTS) - 1)

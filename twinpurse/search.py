@@ -11,8 +11,10 @@ from twinpurse.shelves import Shelf
 from twinpurse.sums import value_at
 
 LONGEST_RING = 400
-# In how many pieces a fan may lie in others, if it is not to be looked at.
+# In how many pieces a fan may lie in others, if it is not to be looked at: the more,
+# the longer the search is, so that it does not go on without end where small pieces are needed.
 MOST_LEAVES = 1000
+MORE_LEAVES = 10
 
 
 class Found:
@@ -74,7 +76,8 @@ class Search:
                 self.look_at(found)
 
     def is_covered(self, fan):
-        return cover(fan, self.shelves[fan[0]], MOST_LEAVES) is not None
+        most = MOST_LEAVES + MORE_LEAVES * len(self.founds)
+        return cover(fan, self.shelves[fan[0]], most) is not None
 
     def look_at(self, found):
         """Replace the fan by others with more rays, or one before it; otherwise keep it and go on from it."""
@@ -91,11 +94,11 @@ class Search:
                 self.take_move(found, move, told)
 
     def keep_waiting(self):
-        """Keep all that waits, although it lies in what was found; then go on."""
-        many = len(self.queue)
-        for _, index in [heappop(self.queue) for _ in range(many)]:
+        """Keep all that waits, although it lies in what was found."""
+        indexes = [index for _, index in self.queue]
+        self.queue = []
+        for index in indexes:
             self.keep(self.waiting[index])
-        self.run()
 
     def replace_by_rings(self, found, rings):
         """Take rings; if one leads to fans that have the whole fan in them, they take its place."""
