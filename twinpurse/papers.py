@@ -42,7 +42,8 @@ def road_to(found):
             parts.append(("walk", found.word))
         elif any(rounds):
             parts.append(("ring", found.word, rounds))
-        counts = [_put_in(told, counts, size) for told in found.maps]
+        if found.maps is not None:
+            counts = [_put_in(told, counts, size) for told in found.maps]
         found = found.before
     return tuple(parts[::-1])
 

@@ -20,7 +20,8 @@ MORE_LEAVES = 10
 class Found:
     """A fan that is reached, and how: from another one by a move (rounds None), or by a ring.
 
-    The maps tell the counts of the other one's rays, as an own number and a multiple of each count of this fan.
+    The maps tell the counts of the other one's rays, as an own number and a multiple of each count of this fan;
+    they are None if the counts are the same.
     If a fan is replaced, what stands under it is needed no more.
     """
 
@@ -138,31 +139,32 @@ class Search:
             for ray, count in zip(rays, counts):
                 at = moved(at, ray, count)
             fan = (target, moved(at, (first, second), 1), rays)
-            self.propose(Found(fan, found, (move,), None, maps_from(counts, list(range(len(rays))))))
+            maps = maps_from(counts, list(range(len(rays)))) if any(counts) else None
+            self.propose(Found(fan, found, (move,), None, maps))
 
     def replace_behind(self, found):
         """Take the words that lead from an earlier fan in the same room to this one."""
         word = ()
         needed = (0, 0, False)
+        effect = (0, 0)
         counts = [0 for _ in found.fan[2]]
         at = found
         while at.before is not None:
             times = times_at(at.rounds, counts)
             if len(word) + times * len(at.word) > LONGEST_RING:
                 return False
-            for _ in range(times):
-                for move in reversed(at.word):
-                    needed = need_ahead(self.moves[move], needed)
+            for move in reversed(at.word * times):
+                needed = need_ahead(self.moves[move], needed)
+                effect = moved(effect, self.moves[move][2:4], 1)
             word = at.word * times + word
-            counts = [value_at(told, counts) for told in at.maps]
+            counts = counts_before(at, counts)
             at = at.before
             if not at.replaced and _may_lead(at.fan, found.fan):
-                ring = (word, needed, effect_along([self.moves[move] for move in word]))
+                ring = (word, needed, effect)
                 if self.replace_by_rings(at, [ring]):
                     self.rings[found.fan[0]].append(ring)
                     self.drop_replaced()
-                    if not found.is_needed():
-                        return True
+                    return not found.is_needed()
         return False
 
     def drop_replaced(self):
@@ -175,6 +177,11 @@ class Search:
 
 def times_at(rounds, counts):
     return 1 if rounds is None else value_at(rounds, counts)
+
+
+def counts_before(found, counts):
+    """Return the counts in the fan before, for counts of this one."""
+    return counts if found.maps is None else [value_at(told, counts) for told in found.maps]
 
 
 def maps_from(owns, kept):
