@@ -2,15 +2,15 @@
 
 from twinpurse.errors import BadArgument
 from twinpurse.fans import MOST_RAYS, check_fan, check_lot, counts_in, is_lot
-from twinpurse.kinds import are_counts, is_between, is_count, is_tuple_of, is_tuple_up_to
+from twinpurse.forms import DEEPEST, MOST_LEAVES, OUT, is_in_leaf, leaves_in
+from twinpurse.kinds import are_counts, is_between, is_tuple_of, is_tuple_up_to
 from twinpurse.pieces import beyond_count, halves, moved, with_count, with_remainder
 from twinpurse.programs import check_program, check_standing
 from twinpurse.roads import is_road
 from twinpurse.runs import moves_of
 
-DEEPEST = 60
-MOST_LEAVES = 100000
-NAMES = ("out", "in", "less", "rest", "compare")
+# From so many trees side by side on, those that are out are not looked at one by one.
+MANY = 60
 
 
 def is_tree(program, lot, fan, move, tree):
@@ -28,8 +28,7 @@ def leaf_of(tree, counts):
     """Return the leaf of a tree to which counts lead, and its own counts."""
     if not is_tuple_up_to(counts, MOST_RAYS) or not are_counts(counts, len(counts)):
         raise BadArgument("these are no counts")
-    leaves = _leaves_below(tree, _counting(len(counts)))
-    if leaves is None or not all([_is_leaf(leaf, len(piece[2])) for leaf, piece in leaves]):
+    if leaves_in(tree, len(counts), DEEPEST, True) == 0:
         raise BadArgument("this is not a tree for so many counts")
     while tree[0] not in ("out", "in"):
         tree, counts = _step_down(tree, counts)
@@ -75,21 +74,51 @@ def _is_right_row(moves, lot, fan, trees):
 
 def _is_right_tree(lot, fan, told, tree):
     # What stands at a leaf is a piece of the fan: a base, and a ray for each own count.
-    leaves = _leaves_below(tree, fan)
-    return leaves is not None and all([_is_right_leaf(lot, told, leaf, piece) for leaf, piece in leaves])
+    found = 0
+    waiting = [(tree, fan, DEEPEST)]
+    while waiting:
+        at, piece, deepest = waiting.pop()
+        if _is_shut(piece, told):
+            many = leaves_in(at, len(piece[2]), deepest, False)
+            if many == 0:
+                return False
+            found += many
+        elif not isinstance(at, tuple) or len(at) < 3:
+            return False
+        elif at[0] == "in":
+            if not _is_right_leaf(lot, told, at, piece):
+                return False
+            found += 1
+        else:
+            parts = _parts_below(at, piece)
+            if parts is None or deepest == 0:
+                return False
+            found += _many_below(at) - len(parts)
+            waiting.extend([(below, piece_below, deepest - 1) for below, piece_below in parts])
+        if found + len(waiting) > MOST_LEAVES:
+            return False
+    return True
+
+
+def _is_shut(piece, told):
+    """Whether the move can be made nowhere in the piece; then so it is in all parts of it."""
+    _, base, rays = piece
+    if told[4]:
+        return base[0] != 0
+    for purse in (0, 1):
+        if base[purse] + told[2 + purse] < 0 and not any([ray[purse] for ray in rays]):
+            return True
+    return False
 
 
 def _is_right_leaf(lot, told, leaf, piece):
-    if not _is_leaf(leaf, len(piece[2])):
-        return False
+    """Whether a leaf with in is right, where the move can be made for some counts."""
     _, base, rays = piece
+    if not is_in_leaf(leaf, len(rays)):
+        return False
     _, target, first, second, is_test = told
     behind = moved(base, (first, second), 1)
-    if leaf[0] == "out":
-        if is_test:
-            return base[0] != 0
-        return any([behind[purse] < 0 and not any([ray[purse] for ray in rays]) for purse in (0, 1)])
-    if is_test and (base[0] != 0 or any([ray[0] for ray in rays])) or min(behind) < 0:
+    if is_test and any([ray[0] for ray in rays]) or min(behind) < 0:
         return False
     _, index, begin, rows = leaf
     if index >= len(lot) or lot[index][0] != target or len(lot[index][2]) != len(begin):
@@ -105,60 +134,40 @@ def _sum_of(rays, counts):
     return found
 
 
-def _is_leaf(leaf, size):
-    """Whether this is a leaf for so many counts, by itself."""
-    if leaf[0] == "out":
-        return len(leaf) == 1
-    if len(leaf) != 4 or not is_count(leaf[1]):
-        return False
-    _, _, begin, rows = leaf
-    if not is_tuple_up_to(begin, MOST_RAYS) or not are_counts(begin, len(begin)):
-        return False
-    return is_tuple_of(rows, size) and all([are_counts(row, len(begin)) for row in rows])
-
-
-def _counting(size):
-    """Return a piece with so many counts, of which only their number matters."""
-    return (0, (0, 0), ((0, 0),) * size)
-
-
-def _leaves_below(tree, piece):
-    """Return the list of leaves, each with its piece, or None for what has not the form of a tree."""
-    found = []
-    waiting = [(tree, piece, 0)]
-    while waiting:
-        at, part, depth = waiting.pop()
-        if not isinstance(at, tuple) or not at or not isinstance(at[0], str) or at[0] not in NAMES:
-            return None
-        if at[0] in ("out", "in"):
-            found.append((at, part))
-        else:
-            parts = _parts_below(at, part)
-            if parts is None or depth == DEEPEST:
-                return None
-            waiting.extend([(below, piece_below, depth + 1) for below, piece_below in parts])
-        if len(found) + len(waiting) > MOST_LEAVES:
-            return None
-    return found
+def _many_below(tree):
+    """Return how many trees stand in a tree."""
+    return 2 if tree[0] == "compare" else len(tree[2]) + len(tree) - 3
 
 
 def _parts_below(tree, piece):
-    """Return the list of the trees in a tree, each with its piece, or None for a wrong form."""
+    """Return the list of the trees in a tree, each with its piece, or None for a wrong form.
+
+    Of very many leaves with out only the first and the last one are told: in their order, the move can be made in
+    the pieces up to some place, or from some place on, so that all between them are right if these two are.
+    """
     size = len(piece[2])
     if tree[0] == "compare":
-        if len(tree) != 3 or size != 2:
-            return None
-        return list(zip(tree[1:], halves(piece)))
-    if len(tree) != (4 if tree[0] == "less" else 3) or not is_between(tree[1], 0, size - 1):
+        return list(zip(tree[1:], halves(piece))) if len(tree) == 3 and size == 2 else None
+    if tree[0] not in ("less", "rest") or len(tree) != (4 if tree[0] == "less" else 3):
         return None
-    index, trees = tree[1], tree[2]
-    if not isinstance(trees, tuple) or len(trees) < (1 if tree[0] == "less" else 2) or len(trees) > MOST_LEAVES:
+    _, index, trees = tree[:3]
+    if not is_between(index, 0, size - 1) or not isinstance(trees, tuple):
         return None
     many = len(trees)
+    if many < (1 if tree[0] == "less" else 2) or many > MOST_LEAVES:
+        return None
     if tree[0] == "rest":
-        return [(below, with_remainder(piece, index, many, at)) for at, below in enumerate(trees)]
-    parts = [(below, with_count(piece, index, at)) for at, below in enumerate(trees)]
+        return [(trees[at], with_remainder(piece, index, many, at)) for at in _places_to_look(trees)]
+    parts = [(trees[at], with_count(piece, index, at)) for at in _places_to_look(trees)]
     return [*parts, (tree[3], beyond_count(piece, index, many))]
+
+
+def _places_to_look(trees):
+    """Return the list of the places of all trees, without those of out between two others if they are many."""
+    if len(trees) < MANY or trees.count(OUT) < MANY:
+        return list(range(len(trees)))
+    first, last = trees.index(OUT), len(trees) - 1 - trees[::-1].index(OUT)
+    return [at for at, tree in enumerate(trees) if tree != OUT or at == first or at == last]
 
 
 def _step_down(tree, counts):
