@@ -30,13 +30,13 @@ def _covered(piece, shelf, effort, deepest):
         return ("in", *place)
     if not piece[2] or not shelf.has(piece[1]):
         return None
-    chosen = shelf.best_at(_far_out(piece), piece)
+    chosen = shelf.best_at(far_out(piece), piece)
     if chosen is None:
         return None
     return _filled(divide(piece, shelf.fans[chosen]), chosen, shelf, effort, deepest)
 
 
-def _far_out(piece):
+def far_out(piece):
     _, (first, second), rays = piece
     for ray, count in zip(rays, FAR):
         first += count * ray[0]

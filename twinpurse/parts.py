@@ -42,6 +42,11 @@ def order_of(standing):
     return (first + second, first, room)
 
 
+def order_of_fan(fan):
+    """Return what is less for that of two fans whose least standing is the lesser one."""
+    return order_of((fan[0], *fan[1]))
+
+
 def _fewer_rays_later(fan):
     return -len(fan[2])
 

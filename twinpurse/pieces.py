@@ -87,6 +87,16 @@ def sums_at(piece, told):
     return own, [told[1] * ray[0] + told[2] * ray[1] for ray in rays]
 
 
+def ahead_of(own, multiples):
+    """Return the index of a count, and from how many of it on a sum is at least 0, or is below 0, for all counts.
+
+    The multiples are not above 0 if the own number is at least 0, and not below 0 otherwise.
+    """
+    sizes = [abs(multiple) for multiple in multiples]
+    index = sizes.index(max(sizes))
+    return index, -(own // sizes[index]) if own < 0 else own // sizes[index] + 1
+
+
 def times_to_meet(ray, congruences):
     """Return the least number of times from 1 on that a ray changes no remainder."""
     many = 1
@@ -168,9 +178,7 @@ def _cut_between(piece, multiples, conditions, congruences):
 
 def _cut_ahead(piece, own, multiples, conditions, congruences):
     # Only the first few counts do not meet the condition, or only they do.
-    sizes = [abs(multiple) for multiple in multiples]
-    index = sizes.index(max(sizes))
-    many = -(own // sizes[index]) if own < 0 else own // sizes[index] + 1
+    index, many = ahead_of(own, multiples)
     trees = [cut(with_count(piece, index, count), conditions, congruences) for count in range(many)]
     return ("less", index, tuple(trees), cut(beyond_count(piece, index, many), conditions, congruences))
 

@@ -11,7 +11,7 @@ MOST_MOVED = 2
 
 def check_program(program):
     """Return None for a program, and raise BadProgram for everything else."""
-    if not _is_program(program):
+    if not is_program(program):
         raise BadProgram("this is not a program")
 
 
@@ -23,7 +23,7 @@ def check_standing(program, standing):
 
 def check_place(standing, rooms):
     """Raise BadStanding for what is no standing in one of so many rooms."""
-    if not _is_place(standing, rooms):
+    if not is_place(standing, rooms):
         # No number stands in the words: Python refuses to write out very long ones.
         raise BadStanding("this is not a standing")
 
@@ -36,7 +36,7 @@ def turned(program):
     return (rooms, tuple(back), tuple([(target, source) for source, target in tests]))
 
 
-def _is_program(program):
+def is_program(program):
     if not is_tuple_of(program, 3):
         return False
     rooms, steps, tests = program
@@ -63,7 +63,7 @@ def _are_rooms(places, rooms):
     return all(is_between(room, 0, rooms - 1) for room in places)
 
 
-def _is_place(standing, rooms):
+def is_place(standing, rooms):
     if not is_tuple_of(standing, 3):
         return False
     room, first, second = standing

@@ -15,8 +15,8 @@ ATTEMPTS = ((50, 1000), (1, 1000), (1, 20000), (1, 80000))
 
 def reach(program, start):
     """Return a right paper for the program and the start."""
-    _check_start(program, start)
-    founds, table = _paper_parts(program, start)
+    check_start(program, start)
+    founds, table = paper_parts(program, start)
     roads = [road_to(found) for found in founds]
     return ([found.fan for found in founds], tuple(roads), tuple(table))
 
@@ -25,8 +25,8 @@ def way(program, start, standing):
     """Return a right road to the standing, or None if the start does not reach it."""
     check_standing(program, start)
     check_standing(program, standing)
-    _check_start(program, start)
-    for found in _paper_parts(program, start)[0]:
+    check_start(program, start)
+    for found in paper_parts(program, start)[0]:
         counts = counts_in(found.fan, standing)
         if counts is not None:
             return tuple([_with_counts(part, counts) for part in road_to(found)])
@@ -35,11 +35,11 @@ def way(program, start, standing):
 
 def sources(program, goal):
     """Return a lot with the standings that reach the goal."""
-    _check_start(program, goal)
+    check_start(program, goal)
     return reach(turned(program), goal)[0]
 
 
-def _check_start(program, start):
+def check_start(program, start):
     check_standing(program, start)
     if max(start[1:]) > MOST_AT_START:
         raise BadArgument("there is too much in a purse")
@@ -51,7 +51,7 @@ def _with_counts(part, counts):
     return ("ring", part[1], (value_at(part[2], counts),))
 
 
-def _paper_parts(program, start):
+def paper_parts(program, start):
     """Return the list of what was found, without what lies in the rest of it, and its table."""
     search = Search(program)
     search.start(start)

@@ -17,7 +17,7 @@ def is_road(program, start, fan, road):
     check_standing(program, start)
     check_fan(fan)
     room, base, rays = fan
-    if not _is_road_of(program, road, len(rays)):
+    if not is_road_of(program, road, len(rays)):
         return False
     more = tuple([0 for _ in rays])
     come = (start[0], (start[1], *more), (start[2], *more))
@@ -33,7 +33,7 @@ def spell(road, counts):
     _check_counts(counts)
     if not _has_form(road, len(counts)):
         raise BadRoad("this is not a road for so many counts")
-    parts = [(part[1], _times(part, counts)) for part in road]
+    parts = [(part[1], times_of(part, counts)) for part in road]
     if sum([len(word) * times for word, times in parts]) > MOST_MOVES:
         raise TooLarge("the word has too many moves")
     return tuple([move for word, times in parts if word for _ in range(times) for move in word])
@@ -44,24 +44,38 @@ def ride(program, start, road, counts):
     check_program(program)
     check_standing(program, start)
     _check_counts(counts)
-    if not _is_road_of(program, road, len(counts)):
+    if not is_road_of(program, road, len(counts)):
         raise BadRoad("this is not a road of the program for so many counts")
+    led = led_along(program, start, road, counts)
+    if led is None:
+        raise BadRoad("the road cannot be made here")
+    return led
+
+
+def led_along(program, start, road, counts):
+    """Return the standing to which a road of the program leads, or None if it cannot be made."""
     come = (start[0], (start[1],), (start[2],))
     for part in road:
-        times = _times(part, counts)
+        times = times_of(part, counts)
         come = _come_behind(program, come, part if part[0] == "walk" else ("ring", part[1], (times,)))
         if come is None:
-            raise BadRoad("the road cannot be made here")
+            return None
     return (come[0], come[1][0], come[2][0])
+
+
+def times_of(part, counts):
+    """Return how many times the word of a part is taken."""
+    return 1 if part[0] == "walk" else value_at(part[2], counts)
+
+
+def is_road_of(program, road, size):
+    """Whether this is a road for so many counts, with words and rings of the program."""
+    return _has_form(road, size) and all([_is_part_of(program, part) for part in road])
 
 
 def _check_counts(counts):
     if not is_tuple_up_to(counts, MOST_COUNTS) or not are_counts(counts, len(counts)):
         raise BadArgument("these are no counts")
-
-
-def _times(part, counts):
-    return 1 if part[0] == "walk" else value_at(part[2], counts)
 
 
 def _has_form(road, size):
@@ -83,11 +97,6 @@ def _is_named(part, name):
 
 def _is_spelt(word):
     return isinstance(word, tuple) and are_counts(word, len(word))
-
-
-def _is_road_of(program, road, size):
-    """Whether this is a road for so many counts, with words and rings of the program."""
-    return _has_form(road, size) and all([_is_part_of(program, part) for part in road])
 
 
 def _is_part_of(program, part):
