@@ -218,3 +218,88 @@ def drawn_cases(seed, many):
     for _ in range(many):
         program = drawn_program(rng)
         yield program, drawn_start(rng, program)
+
+
+def order(standing):
+    """What is less for the lesser one of two standings, as point 14 tells it."""
+    room, a, b = standing
+    return (a + b, a, room)
+
+
+def slow_holds(question, standing):
+    """Whether a question is so of a standing, straight from point 15."""
+    name = question[0]
+    if name == "not":
+        return not slow_holds(question[1], standing)
+    if name in ("and", "or"):
+        told = [slow_holds(part, standing) for part in question[1:]]
+        return all(told) if name == "and" else any(told)
+    if name == "room":
+        return standing[0] == question[1]
+    total = question[1] * standing[1] + question[2] * standing[2]
+    return total <= question[3] if name == "most" else total % question[3] == question[4]
+
+
+def drawn_form(rng, bound):
+    def factor():
+        return rng.choice((0, 1, -1, rng.randint(-6, 6)))
+    name = rng.choice(("room", "most", "most", "most", "rest", "rest"))
+    if name == "room":
+        return (name, rng.randrange(3))
+    if name == "most":
+        return (name, factor(), factor(), rng.randint(-bound, bound))
+    modulus = rng.randint(2, 6)
+    return (name, factor(), factor(), modulus, rng.randrange(modulus))
+
+
+def drawn_question(rng, forms, bound, nots=3):
+    """Draw a question with so many of the first three forms, and at most so many nots."""
+    below = rng.randint(0, nots)
+    if forms == 1:
+        question = drawn_form(rng, bound)
+    else:
+        few, here = rng.randint(1, forms - 1), rng.randint(0, below)
+        parts = (drawn_question(rng, few, bound, here), drawn_question(rng, forms - few, bound, below - here))
+        question = (rng.choice(("and", "or")), *parts)
+    return ("not", question) if below < nots and rng.random() < 0.5 else question
+
+
+def led_to(program, standing):
+    """The list of the standings to which the moves lead."""
+    led = [slow_make(program, standing, move) for move in range(len(program[1]) + len(program[2]))]
+    return [target for target in led if target is not None]
+
+
+def reaching(program, standings, goal):
+    """Those of finitely many standings, of which no move leads out, that reach the goal."""
+    before = {standing: [] for standing in standings}
+    for standing in standings:
+        for target in led_to(program, standing):
+            before[target].append(standing)
+    found, waiting = {goal}, [goal]
+    while waiting:
+        for standing in before[waiting.pop()]:
+            if standing not in found:
+                found.add(standing)
+                waiting.append(standing)
+    return found
+
+
+def has_cycle(program, standings):
+    """Whether some moves lead from one of finitely many standings back to it."""
+    left = {standing: led_to(program, standing) for standing in standings}
+    while True:
+        kept = {standing: told for standing, told in left.items() if any(target in left for target in told)}
+        if len(kept) == len(left):
+            return bool(left)
+        left = kept
+
+
+def slow_program(rng, rooms=None):
+    """Draw a program whose steps put little in, so that mostly finitely many standings are reached."""
+    rooms = rooms or rng.choice((1, 2, 2, 3, 3))
+    effects = ((-1, 0), (0, -1), (-1, 1), (1, -1), (-2, 2), (2, -2), (-1, 2), (0, 0), (-2, 1), (1, -2), (2, -1), (1, 0))
+    many = rng.choice((0, 1, 2, 3, 4, 4))
+    steps = [(rng.randrange(rooms), rng.randrange(rooms), *rng.choice(effects)) for _ in range(many)]
+    tests = [(rng.randrange(rooms), rng.randrange(rooms)) for _ in range(rng.choice((0, 0, 1, 2)))]
+    return (rooms, tuple(steps), tuple(tests))

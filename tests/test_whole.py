@@ -8,7 +8,7 @@ import pathlib
 import unittest
 
 from tests import helper
-from twinpurse import fans, lots, programs, reach, roads, runs, tables
+from twinpurse import facts, fans, lots, programs, questions, reach, roads, runs, tables, texts
 from twinpurse.errors import BadArgument, BadProgram, BadStanding
 
 FOLDER = pathlib.Path(__file__).resolve().parent.parent / "twinpurse"
@@ -42,7 +42,22 @@ INTERFACE = {
         "union": ["lot", "other"], "share": ["lot", "other"], "without": ["lot", "other"], "lack": ["lot", "rooms"],
         "least": ["lot"], "within": ["lot", "other"], "alike": ["lot", "other"], "number": ["lot"],
     },
+    "questions": {
+        "check_question": ["question"], "holds": ["question", "standing"], "answers": ["lot", "question"],
+        "every": ["lot", "question"],
+    },
+    "facts": {
+        "stuck": ["program", "start"], "home": ["program", "start"], "greatest": ["program", "start"],
+        "differ": ["program", "start", "other", "other_start"], "endless": ["program", "start"],
+        "is_lasso": ["program", "start", "lasso"],
+    },
+    "texts": {
+        "format_program": ["program"], "format_standing": ["standing"], "format_lot": ["lot"],
+        "format_question": ["question"], "parse_program": ["text"], "parse_standing": ["text"], "parse_lot": ["text"],
+        "parse_question": ["text"],
+    },
 }
+CLASSES = {("desk", "Desk"): {"__init__": ["self"], "do": ["self", "line"]}}
 # What a module may import from beside the package: nothing of it knows a clock, chance or files.
 LIBRARY = {"heapq", "math", "itertools", "collections"}
 BUILTINS_THAT_REACH_OUT = {"open", "input", "print", "eval", "exec", "compile", "__import__", "globals"}
@@ -97,6 +112,27 @@ def calls():
         (lots.without, [[other], [(2, (3, 2), ())]]), (lots.least, [[other]]), (lots.least, [[]]),
         (lots.within, [[other], []]), (lots.alike, [[other], [other]]), (lots.number, [[other]]),
         (lots.number, [[(2, (3, 2), ())]]),
+    ] + later_calls()
+
+
+def later_calls():
+    pair, counter, ends = helper.PAIR, helper.COUNTER, (2, ((0, 0, -1, 1), (0, 1, 0, -1)), ((1, 0),))
+    lot, asked = [(2, (0, 2), ((1, 0),)), (0, (1, 1), ())], ("and", ("not", ("rest", 1, 0, 2, 1)), ("most", 1, -2, 7))
+    lasso = ((), (0, 1, 2), (("ring", (0,), (2,)),))
+    return [
+        (questions.check_question, [asked]), (questions.holds, [asked, (0, 1, 2)]), (questions.answers, [lot, asked]),
+        (questions.answers, [lot, ("not", asked)]), (questions.answers, [[], asked]), (questions.every, [lot, asked]),
+        (questions.every, [lot, ("most", -1, -1, 0)]), (facts.stuck, [ends, (0, 2, 0)]), (facts.stuck, [counter, (0,
+        1, 2)]),
+        (facts.home, [ends, (0, 2, 0)]), (facts.home, [counter, (0, 1, 2)]), (facts.greatest, [ends, (0, 2, 0)]),
+        (facts.greatest, [counter, (0, 1, 2)]), (facts.differ, [pair, (0, 1, 2), counter, (0, 1, 2)]),
+        (facts.differ, [pair, (0, 1, 2), pair, (0, 1, 2)]), (facts.endless, [ends, (0, 2, 0)]),
+        (facts.endless, [counter, (0, 1, 2)]), (facts.is_lasso, [counter, (0, 1, 2), lasso]),
+        (facts.is_lasso, [counter, (0, 1, 2), [lasso]]), (texts.format_program, [pair]),
+        (texts.format_standing, [(2, 3, 4)]), (texts.format_lot, [lot]), (texts.format_lot, [[]]),
+        (texts.format_question, [asked]), (texts.parse_program, ["rooms 1; 0>0 1 1"]), (texts.parse_standing,
+        ["0 1 2"]),
+        (texts.parse_lot, ["0 1 2; 3 4 | 1 0 0"]), (texts.parse_lot, ["none"]), (texts.parse_question, ["not room 1"]),
     ]
 
 
@@ -112,6 +148,21 @@ class Interface(unittest.TestCase):
                         self.assertTrue(inspect.isclass(told))
                     else:
                         self.assertEqual(list(inspect.signature(told).parameters), arguments)
+
+
+    def test_classes(self):
+        for (module, name), methods in CLASSES.items():
+            told = getattr(importlib.import_module("twinpurse." + module), name)
+            self.assertEqual(told.__module__, "twinpurse." + module)
+            for method, arguments in methods.items():
+                self.assertEqual(list(inspect.signature(vars(told)[method]).parameters), arguments)
+
+    def test_errors_stand_side_by_side(self):
+        found = importlib.import_module("twinpurse.errors")
+        for name in INTERFACE["errors"]:
+            self.assertIs(getattr(found, name).__bases__[0],
+                          ValueError if name == "TwinpurseError" else found.TwinpurseError)
+            self.assertEqual(len(getattr(found, name).__bases__), 1)
 
 
 class Behaviour(unittest.TestCase):

@@ -9,7 +9,7 @@ from math import gcd, lcm
 
 from twinpurse.parts import order_of, order_of_fan
 from twinpurse.pieces import ahead_of, beyond_count, moved, sums_at, with_count
-from twinpurse.sectors import direction_of, sectors
+from twinpurse.sectors import direction_of, parts_between, sectors, spanned
 
 
 def is_so(question, standing):
@@ -20,32 +20,27 @@ def is_so(question, standing):
 def least_with(fans, question):
     """Return the least standing of the fans of which the question is so, or None."""
     seeker = Least()
-    for fan in sorted(fans, key=order_of_fan):
-        _split(fan, question, seeker)
+    _look_through(sorted(fans, key=order_of_fan), question, seeker)
     return seeker.best
 
 
 def fans_with(fans, question):
     """Return a list of fans with just the standings of the fans of which the question is so."""
     seeker = Parts()
-    for fan in fans:
-        _split(fan, question, seeker)
+    _look_through(fans, question, seeker)
     return [fan for part in seeker.found for fan in _fans_in(part)]
 
 
 def number_with(fans, question):
     """Return of how many standings of the fans the question is so, or None if they are endlessly many."""
-    seeker = Parts()
-    for fan in fans:
-        _split(fan, question, seeker)
-    endless = [part for part in seeker.found if part[1] is None]
-    if any([first_in(part) is not None for part in endless]):
+    seeker = Finite()
+    _look_through(fans, question, seeker)
+    if seeker.is_endless:
         return None
     told = set()
     for piece, many, asked in seeker.found:
-        if many is not None:
-            for standing in _standings_in(piece, many, asked):
-                told.add(standing)
+        for standing in _standings_in(piece, many, asked):
+            told.add(standing)
     return len(told)
 
 
@@ -76,6 +71,41 @@ class Parts:
 
     def take(self, part):
         self.found.append(part)
+
+
+class Finite:
+    """Takes all parts with finitely many standings, until there is one with endlessly many."""
+
+    def __init__(self):
+        self.found = []
+        self.is_endless = False
+
+    def wants(self, piece):
+        return not self.is_endless
+
+    def take(self, part):
+        if part[1] is not None:
+            self.found.append(part)
+        elif first_in(part) is not None:
+            self.is_endless = True
+
+
+class Hopes:
+    """Which questions of remainders are so of some standing of a fan, so that they may be so of one of its parts."""
+
+    def __init__(self, fan):
+        self.fan = fan
+        self.known = []
+
+    def may_be_so(self, question):
+        if question is True:
+            return True
+        for told, may_be in self.known:
+            if told == question:
+                return may_be
+        may_be = first_in((self.fan, None, question)) is not None
+        self.known.append((question, may_be))
+        return may_be
 
 
 def simplified(question, piece, settle):
@@ -112,6 +142,11 @@ def settled_at_base(form, piece):
     return _settled_at_all_bases(form, piece)
 
 
+def settled_widely(form, piece):
+    """Do as settled_in, where all between the rays is meant, and not only what is made of them."""
+    return form if form[0] == "rest" else settled_in(form, piece)
+
+
 def first_in(part):
     """Return the least standing of a part of which its question is so, or None."""
     piece, many, question = part
@@ -145,36 +180,47 @@ def _settled_at_all_bases(form, piece):
     return True if common == modulus else form
 
 
-def _split(piece, question, seeker):
+def _look_through(fans, question, seeker):
+    """Let the seeker take all parts of the fans in which the question is not settled as False."""
+    for fan in fans:
+        _split(fan, question, seeker, Hopes(fan))
+
+
+def _split(piece, question, seeker, hopes):
     """Let the seeker take all parts of a piece in which the question is not settled as False."""
-    directions = []
-    for form in _forms_in(question, "most") if len(piece[2]) == 2 else []:
-        _, multiples = sums_at(piece, _condition_of(form))
-        if min(multiples) < 0 < max(multiples):
-            directions.append(direction_of(multiples))
-    for part in sectors(piece, directions) if directions else [piece]:
-        _split_sector(part, question, seeker)
-
-
-def _split_sector(piece, question, seeker):
-    """Do as _split, where no sum with a bound grows with one count and becomes less with the other one."""
-    told = simplified(question, piece, settled_in) if seeker.wants(piece) else False
+    if not seeker.wants(piece):
+        return
+    told = question is True or simplified(question, piece, settled_in)
     if told is False:
         return
     forms = [] if told is True else _forms_in(told, "most")
-    if not forms:
+    if forms and len(piece[2]) == 1:
+        _split_line(piece, told, forms, seeker, hopes)
+    elif forms:
+        _split_between(piece, told, forms, seeker, hopes)
+    elif hopes.may_be_so(told):
         seeker.take((piece, None if piece[2] else 1, told))
-    elif len(piece[2]) == 1:
-        _split_line(piece, told, forms, seeker)
-    else:
-        own, multiples = sums_at(piece, _condition_of(forms[0]))
+
+
+def _split_between(piece, question, forms, seeker, hopes):
+    """Do as _split for a piece with two rays."""
+    sums = [sums_at(piece, _condition_of(form)) for form in forms]
+    directions = [direction_of(multiples) for _, multiples in sums if min(multiples) < 0 < max(multiples)]
+    if not directions:
+        own, multiples = sums[0]
         index, many = ahead_of(own, multiples)
         for count in range(many):
-            _split_sector(with_count(piece, index, count), told, seeker)
-        _split_sector(beyond_count(piece, index, many), told, seeker)
+            _split(with_count(piece, index, count), question, seeker, hopes)
+        _split(beyond_count(piece, index, many), question, seeker, hopes)
+        return
+    for low, high in sectors(directions):
+        told = simplified(question, spanned(piece, low, high), settled_widely)
+        if told is not False and (told is True or _forms_in(told, "most") or hopes.may_be_so(told)):
+            for part in parts_between(piece, low, high):
+                _split(part, told, seeker, hopes)
 
 
-def _split_line(piece, question, forms, seeker):
+def _split_line(piece, question, forms, seeker, hopes):
     """Do as _split for a piece with one ray: each sum comes over its bound once, or falls below it."""
     turns = [0]
     for form in forms:
@@ -185,7 +231,7 @@ def _split_line(piece, question, forms, seeker):
     for low, high in zip(turns, [*turns[1:], None]):
         part = beyond_count(piece, 0, low)
         told = simplified(question, part, settled_at_base)
-        if told is not False:
+        if told is not False and hopes.may_be_so(told):
             seeker.take((part, None if high is None else high - low, told))
 
 

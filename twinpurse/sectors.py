@@ -16,27 +16,34 @@ def direction_of(multiples):
     return (second // common, first // common)
 
 
-def sectors(piece, directions):
-    """Return pieces between the directions which together have the standings of the piece."""
+def sectors(directions):
+    """Return the list of pairs of directions, the lower one first, between which there is no other one."""
     edges = [(1, 0), (0, 1)]
     for direction in directions:
         if direction not in edges:
             later = [at for at, edge in enumerate(edges) if turn_of(direction, edge) > 0]
             edges.insert(later[0], direction)
-    return [part for low, high in zip(edges, edges[1:]) for part in _parts_between(piece, low, high)]
+    return list(zip(edges, edges[1:]))
 
 
-def _parts_between(piece, low, high):
-    # Each row of counts along the low direction has one place that is not reached from others of the sector.
+def spanned(piece, low, high):
+    """Return the piece whose rays go along two directions; it has not all that lies between them."""
     room, base, (ray, other) = piece
-    rays = (_along(ray, other, low), _along(ray, other, high))
+    return (room, base, (_along(ray, other, low), _along(ray, other, high)))
+
+
+def parts_between(piece, low, high):
+    """Return pieces with all standings of a piece that lie between two directions."""
+    # Each row of counts along the low direction has one place that is not reached from others between the two.
+    ray, other = piece[2]
+    room, base, rays = spanned(piece, low, high)
     grain = turn_of(low, high)
     first, second = _next_row(low)
     parts = []
     for row in range(grain):
         back = turn_of((row * first, row * second), high) // grain
-        count, more = row * first - back * low[0], row * second - back * low[1]
-        parts.append((room, moved(base, _along(ray, other, (count, more)), 1), rays))
+        counts = (row * first - back * low[0], row * second - back * low[1])
+        parts.append((room, moved(base, _along(ray, other, counts), 1), rays))
     return parts
 
 
