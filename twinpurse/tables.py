@@ -4,7 +4,7 @@ from twinpurse.errors import BadArgument
 from twinpurse.fans import MOST_RAYS, check_fan, check_lot, counts_in, is_lot
 from twinpurse.forms import DEEPEST, MOST_LEAVES, OUT, is_in_leaf, leaves_in
 from twinpurse.kinds import are_counts, is_between, is_tuple_of, is_tuple_up_to
-from twinpurse.pieces import beyond_count, halves, moved, with_count, with_remainder
+from twinpurse.pieces import beyond_count, halves, with_count, with_remainder
 from twinpurse.programs import check_program, check_standing
 from twinpurse.roads import is_road
 from twinpurse.runs import moves_of
@@ -117,21 +117,25 @@ def _is_right_leaf(lot, told, leaf, piece):
     if not is_in_leaf(leaf, len(rays)):
         return False
     _, target, first, second, is_test = told
-    behind = moved(base, (first, second), 1)
+    behind = (base[0] + first, base[1] + second)
     if is_test and any([ray[0] for ray in rays]) or min(behind) < 0:
         return False
     _, index, begin, rows = leaf
     if index >= len(lot) or lot[index][0] != target or len(lot[index][2]) != len(begin):
         return False
-    sums = [_sum_of(lot[index][2], row) for row in rows]
-    return moved(lot[index][1], _sum_of(lot[index][2], begin), 1) == behind and sums == list(rays)
+    _, other_base, other_rays = lot[index]
+    if _summed(other_base, other_rays, begin) != behind:
+        return False
+    return [_summed((0, 0), other_rays, row) for row in rows] == list(rays)
 
 
-def _sum_of(rays, counts):
-    found = (0, 0)
+def _summed(pair, rays, counts):
+    """Return the pair with each ray added so many times."""
+    first, second = pair
     for ray, count in zip(rays, counts):
-        found = moved(found, ray, count)
-    return found
+        first += count * ray[0]
+        second += count * ray[1]
+    return (first, second)
 
 
 def _many_below(tree):
@@ -157,9 +161,16 @@ def _parts_below(tree, piece):
     if many < (1 if tree[0] == "less" else 2) or many > MOST_LEAVES:
         return None
     if tree[0] == "rest":
-        return [(trees[at], with_remainder(piece, index, many, at)) for at in _places_to_look(trees)]
-    parts = [(trees[at], with_count(piece, index, at)) for at in _places_to_look(trees)]
-    return [*parts, (tree[3], beyond_count(piece, index, many))]
+        rays = with_remainder(piece, index, many, 0)[2]
+        return _parts_ahead(piece, trees, index, rays)
+    rays = with_count(piece, index, 0)[2]
+    return [*_parts_ahead(piece, trees, index, rays), (tree[3], beyond_count(piece, index, many))]
+
+
+def _parts_ahead(piece, trees, index, rays):
+    """Return trees with the pieces with these rays that begin with 0, 1, 2 .. of a count."""
+    room, (first, second), ray = piece[0], piece[1], piece[2][index]
+    return [(trees[at], (room, (first + at * ray[0], second + at * ray[1]), rays)) for at in _places_to_look(trees)]
 
 
 def _places_to_look(trees):
