@@ -1,11 +1,12 @@
 """Questions about standings, and of which standings of a lot they are so."""
 
-from twinpurse.asked import fans_with, is_so, least_with
+from twinpurse.asked import fans_with, least_with
 from twinpurse.errors import BadArgument
 from twinpurse.fans import check_lot
 from twinpurse.kinds import is_between, is_tuple_of
 from twinpurse.lots import check_size
 from twinpurse.programs import MOST_ROOMS, check_place
+from twinpurse.settling import is_so
 
 MOST_FORMS = 4
 MOST_JOINTS = 6
