@@ -11,7 +11,7 @@ from twinpurse.facts import endless, greatest, home, stuck
 from twinpurse.fans import has
 from twinpurse.reach import reach
 from twinpurse.runs import able, play
-from twinpurse.texts import format_program, format_question, format_standing, parse_standing
+from twinpurse.texts import format_program, format_question, format_standing, parse_question, parse_standing
 
 PROGRAM = "program rooms 2; 0>1 1 -2; 1>0 0 2; test 1>1"
 FINITE = "program rooms 2; 0>0 -1 1; 0>1 0 -1; test 1>0"
@@ -164,6 +164,26 @@ class AgainstTheFunctions(unittest.TestCase):
         rng = random.Random(2)
         for program, start in HARD[:8]:
             self.look_at(program, start, rng)
+
+    def test_very_many_fans(self):
+        # Here reach tells more than a thousand fans; some of the questions are so of no standing at all.
+        program, start = HARD[15]
+        desk, seen = started(program, start), helper.seen(reach(program, start)[0], 130)
+        for text, none in (
+            ("and most 1 1 99 rest 1 1 3 1", False), ("and most 1 -1 -9 most -1 1 8", True),
+            ("and not most 1 -1 5 and rest 1 0 6 5 or rest -1 0 3 0 most 4 -1 10", True),
+            ("and and rest 3 1 6 2 not rest 1 1 4 1 and not most -4 5 -23 rest 1 -1 6 3", True),
+            ("and most 2 -1 3 and most -3 4 11 room 1", False),
+            ("and rest 1 0 4 2 and rest 0 1 5 1 most 2 1 60", False),
+        ):
+            question = parse_question(text)
+            yes = [standing for standing in seen if helper.slow_holds(question, standing)]
+            self.assertEqual(bool(yes), not none)
+            least = min(yes, key=helper.order, default=None)
+            self.assertEqual(desk.do("count " + text), str(len(yes)), text)
+            self.assertEqual(desk.do("least " + text), "none" if none else format_standing(least))
+            self.assertEqual(desk.do("every not " + text), "yes" if none else format_standing(least))
+        self.assertEqual(desk.do("count not most 1 1 99"), "endless")
 
     def look_at(self, program, start, rng):
         desk, lot = started(program, start), reach(program, start)[0]

@@ -10,6 +10,7 @@ from tests.test_reach import HARD, NO_STARTS
 from twinpurse.errors import BadArgument, BadProgram, BadStanding
 from twinpurse.facts import differ, endless, greatest, home, is_lasso, stuck
 from twinpurse.fans import has
+from twinpurse.gaps import least_outside
 from twinpurse.programs import turned
 from twinpurse.reach import reach, sources, way
 from twinpurse.roads import is_road, ride, spell
@@ -188,6 +189,15 @@ class Differ(unittest.TestCase):
         for (rooms, steps, tests), start in HARD[:12]:
             other = (rooms, steps[::-1], tests + tests[:1] if len(tests) == 1 else tests[::-1])
             self.assertIsNone(differ((rooms, steps, tests), start, other, start))
+
+    def test_fans_with_other_grains(self):
+        # All that the first one reaches, in fans of grain 40, lies in many fans of grains from 36 to 77.
+        one = (2, ((0, 1, 2, 2), (1, 1, -1, 2), (1, 0, 1, 2), (1, 0, 2, 1)), ((0, 0),)), (0, 3, 3)
+        other = (2, ((0, 1, 2, 2), (1, 1, -1, 2), (1, 0, 2, 1), (0, 0, 1, -1)), ((0, 0), (1, 0))), (1, 3, 0)
+        self.assertEqual(self.compare(one, other), (1, 3, 0))
+        lots = reach(*one)[0], reach(*other)[0]
+        self.assertIsNone(least_outside(*lots))
+        self.assertEqual(least_outside(*lots[::-1]), (1, 3, 0))
 
     def test_rooms_that_are_not_reached(self):
         self.assertIsNone(differ((1, ((0, 0, 1, 2),), ()), (0, 1, 1), (3, ((0, 0, 1, 2), (1, 2, 1, 1)), ()), (0, 1, 1)))

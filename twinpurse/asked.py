@@ -108,7 +108,7 @@ class Splitter:
     def look_at(self, fan, question):
         self.fan = fan
         self.hopes = {}
-        self.split(fan, question)
+        self.take_apart(fan, question)
 
     def remainders_of(self, question):
         """Return what is known of a question, or None if its remainders are left by no standing of the fan."""
@@ -121,7 +121,7 @@ class Splitter:
             self.hopes[number] = self.known[number].may_be_in(self.fan)
         return self.known[number] if self.hopes[number] else None
 
-    def split(self, piece, question):
+    def take_apart(self, piece, question):
         if not self.seeker.wants(piece):
             return
         told = question is True or simplified(question, piece, settled_in)
@@ -131,16 +131,16 @@ class Splitter:
         if not forms:
             self.offer(piece, None if piece[2] else 1, told)
         elif len(piece[2]) == 1:
-            self.split_line(piece, told, forms)
+            self.take_line_apart(piece, told, forms)
         else:
-            self.split_between(piece, told, forms)
+            self.take_sectors_apart(piece, told, forms)
 
     def offer(self, piece, many, question):
         remainders = self.remainders_of(question)
         if remainders is not None:
             self.seeker.take(piece, many, remainders)
 
-    def split_line(self, piece, question, forms):
+    def take_line_apart(self, piece, question, forms):
         """Split a piece with one ray: each sum comes over its bound once, or falls below it."""
         turns = [0]
         for form in forms:
@@ -154,25 +154,25 @@ class Splitter:
             if told is not False:
                 self.offer(part, None if high is None else high - low, told)
 
-    def split_between(self, piece, question, forms):
+    def take_sectors_apart(self, piece, question, forms):
         """Split a piece with two rays, along directions first in which a sum stays as it is."""
         sums = [sums_at(piece, condition_of(form)) for form in forms]
         directions = [direction_of(multiples) for _, multiples in sums if min(multiples) < 0 < max(multiples)]
         if not directions:
-            self.split_ahead(piece, question, sums[0])
+            self.take_ahead_apart(piece, question, sums[0])
         for low, high in sectors(directions) if directions else []:
             told = simplified(question, spanned(piece, low, high), settled_widely)
             if told is not False and self.remainders_of(told) is not None:
                 for part in parts_between(piece, low, high):
-                    self.split(part, told)
+                    self.take_apart(part, told)
 
-    def split_ahead(self, piece, question, told):
+    def take_ahead_apart(self, piece, question, told):
         """Split off the first few counts, with which a sum may not yet have come to its bound."""
         own, multiples = told
         index, many = ahead_of(own, multiples)
         for count in range(many):
-            self.split(with_count(piece, index, count), question)
-        self.split(beyond_count(piece, index, many), question)
+            self.take_apart(with_count(piece, index, count), question)
+        self.take_apart(beyond_count(piece, index, many), question)
 
 
 def _look_through(fans, question, seeker):

@@ -78,7 +78,7 @@ class Desk:
         if name == "stuck":
             return _told_or(stuck_in(self.program, self.reached()), "none")
         if name == "home":
-            return _told_or(least_outside(self.reached(), sources(self.program, self.start), None), "yes")
+            return _told_or(least_outside(self.reached(), sources(self.program, self.start)), "yes")
         if name == "greatest":
             return " ".join(["none" if most is None else str(most) for most in greatest_in(self.reached())])
         if name == "endless":

@@ -1,7 +1,7 @@
 """What is so of all standings that a start reaches, and of all runs from it."""
 
-from twinpurse.findings import greatest_in, lasso_in, least_apart, stuck_in
-from twinpurse.gaps import least_outside
+from twinpurse.findings import greatest_in, lasso_in, stuck_in
+from twinpurse.gaps import least_apart, least_outside
 from twinpurse.kinds import is_tuple_of
 from twinpurse.programs import check_program, check_standing, is_place
 from twinpurse.reach import check_start, paper_parts, reach, sources
@@ -21,7 +21,7 @@ def greatest(program, start):
 
 def home(program, start):
     """Return None if all that the start reaches reaches the start, otherwise the least standing that does not."""
-    return least_outside(reach(program, start)[0], sources(program, start), None)
+    return least_outside(reach(program, start)[0], sources(program, start))
 
 
 def differ(program, start, other, other_start):

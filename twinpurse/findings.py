@@ -1,7 +1,6 @@
 """What is so of all that is reached, told from what the search behind reach has found."""
 
 from twinpurse.asked import least_with
-from twinpurse.gaps import least_outside
 from twinpurse.papers import road_to
 from twinpurse.parts import order_of
 from twinpurse.runs import led_by, moves_of
@@ -22,13 +21,6 @@ def stuck_in(program, fans):
 def greatest_in(fans):
     """Return the greatest number in each purse, or None for it where there is none; there is a fan at least."""
     return tuple([_greatest_of(fans, purse) for purse in (0, 1)])
-
-
-def least_apart(fans, others):
-    """Return the least standing that is in just one of two lists of fans, or None."""
-    first = least_outside(fans, others, None)
-    second = least_outside(others, fans, first)
-    return first if second is None else second
 
 
 def lasso_in(program, founds):

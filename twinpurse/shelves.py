@@ -57,6 +57,19 @@ class Shelf:
                     found.append((group.cost_of(piece[2]), min([number for number, _ in places])))
         return min(found)[1] if found else None
 
+    def densest_at(self, point, piece):
+        """Return the number of a fan with this point of those that leave least of the piece, or None."""
+        found = []
+        for group in self.groups.values():
+            if len(group.rays) >= len(piece[2]):
+                places = group.places_of(point)
+                if places:
+                    outside, remainders = group.cost_of(piece[2])
+                    # Of so many places for a fan between the rays, so many are taken.
+                    rank = -(len(group.places) * 1000) // group.grain
+                    found.append((outside, rank, remainders, min([number for number, _ in places])))
+        return min(found)[3] if found else None
+
 
 class Group:
     """Fans with the same rays: their bases, by what they leave as remainders."""
