@@ -36,7 +36,9 @@ NO_LINES = (
     "every room 0 ",
     "has", "has ", "has 0", "has 0 0", "has 2 0 0", "has 0 -1 0", "has 0 0 0 0", "has 0 0 0 ", "has  0 0 0",
     "has 0 0 01",
-    "reach", "lot", "paper", "quit",
+    "reach", "lot", "paper", "quit", "all room 0", "counts room 0", "Count room 0", "leas room 0", "Every room 0",
+    "stuck room 0",
+    "number room 0", "answers room 0", "has room 0", "play room 0", "Has 0 0 0", "Able 0 0 0", "Play 0", "Play -",
 )
 
 

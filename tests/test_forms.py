@@ -131,6 +131,38 @@ class LeafTest(unittest.TestCase):
         self.assert_none(("rest", 0, (OUT, tall)))
         self.assert_none(("rest", 0, (OUT,) * 9 + (tall,)))
 
+    def test_depth_in_each_place(self):
+        for put in (
+            lambda tree: ("rest", 0, (OUT, tree)), lambda tree: ("rest", 1, (tree, OUT, OUT)),
+            lambda tree: ("compare", tree, OUT), lambda tree: ("compare", OUT, tree),
+            lambda tree: ("less", 1, (OUT, OUT), tree),
+        ):
+            tall = OUT
+            for _ in range(60):
+                tall = put(tall)
+            self.assertEqual(leaf_of(tall, (0, 0))[0], OUT)
+            self.assert_none(put(tall), (0, 0))
+            self.assert_none(("less", 0, (OUT,), tall), (0, 0))
+        tall = OUT
+        for _ in range(59):
+            tall = ("less", 0, (OUT,), tall)
+        self.assertEqual(leaf_of(("less", 1, (tall, tall), OUT), (0, 0))[0], OUT)
+        self.assert_none(("less", 1, (OUT, ("less", 0, (OUT,), tall)), OUT), (0, 0))
+
+    def test_other_forms(self):
+        for wrong in (
+            ("compare", OUT), ("compare",), ("compare", OUT, OUT, OUT), ("compare", (OUT, OUT)), ("compare", 0, (OUT,
+            OUT)),
+            ("more", 0, (OUT,), OUT), ("rest", 0, (OUT, OUT), OUT), ("less", 0, (OUT, OUT)), ("less", 2, (OUT,), OUT),
+            ("less", 0, (("rest", 1, (OUT, OUT)),), OUT), ("less", 0, OUT, OUT), ("rest", -1, (OUT, OUT)),
+            ("less", 0, (("compare", OUT, OUT),), OUT), ("less", 0, (("in", 0, (), ((), ())),), OUT),
+        ):
+            self.assert_none(wrong, (1, 1))
+            self.assert_none(("compare", wrong, OUT), (1, 1))
+            self.assert_none(("compare", OUT, wrong), (1, 1))
+            self.assert_none(("rest", 1, (OUT, OUT, wrong)), (1, 1))
+            self.assert_none(("less", 1, (OUT, OUT), wrong), (1, 1))
+
     def test_one_wrong_leaf(self):
         for wrong in WRONG_LEAVES:
             for tree, places in ((doubled(OUT, 16), 16), (doubled(IN, 13), 13)):
@@ -168,6 +200,22 @@ class LeafTest(unittest.TestCase):
         self.assert_none(("rest", 0, (wrong,) + (right,) * 99))
         self.assert_none(("compare", ("rest", 1, (OUT, OUT)), ("rest", True, (OUT, OUT))), (1, 1))
         self.assert_none(("less", 0, (("in", 1, (), ((),)), ("in", True, (), ((),))), OUT), (0, 1))
+        for put in (
+            lambda tree: ("compare", tree, OUT), lambda tree: ("compare", OUT, tree), lambda tree: ("rest", 1, (tree,
+                OUT)),
+            lambda tree: ("less", 0, (OUT,), tree), lambda tree: ("rest", 0, (OUT, OUT, tree)),
+        ):
+            for right, wrong in (
+                (("rest", 1, (OUT, OUT)), ("rest", True, (OUT, OUT))), (("rest", 0, (OUT, OUT)), ("rest", 0.0, (OUT,
+                OUT))),
+                (("less", 0, (OUT,), OUT), ("less", False, (OUT,), OUT)),
+                (("in", 0, (1,), ((0,), (1,))), ("in", 0, (1,), ((0,), (True,)))),
+                (("in", 0, (1,), ((0,), (1,))), ("in", 0, (1.0,), ((0,), (1,)))),
+            ):
+                self.assertEqual(put(right), put(wrong))
+                self.assertEqual(leaf_of(("rest", 0, (put(right), put(right))), (0, 9)), leaf_of(put(right), (0, 9)))
+                self.assert_none(("rest", 0, (put(right), put(wrong))), (0, 9))
+                self.assert_none(("compare", put(right), put(wrong)), (0, 9))
 
     def test_counts_of_another_size(self):
         for counts in ((), (1, 1)):
