@@ -271,6 +271,39 @@ class RightTest(unittest.TestCase):
         self.assert_all(True, down, ALONG, 0, tree)
         self.assert_all(False, down, ALONG, 0, ("less", 0, (OUT,) * 100, tree[3]))
         self.assert_all(False, down, ALONG, 0, ("rest", 0, (OUT,) * 100))
+        # What lies behind many that are out may be right, and they are not.
+        ahead = tuple([("in", 0, (at - 1,), ()) for at in range(100, 120)])
+        self.assert_all(False, down, ALONG, 0, ("less", 0, (OUT,) * 100, ("in", 0, (99,), ((1,),))))
+        self.assert_all(False, down, ALONG, 0, ("less", 0, (OUT,) * 100 + ahead, ("in", 0, (119,), ((1,),))))
+        self.assert_all(False, down, ALONG, 0, ("less", 0, ahead[:1] + (OUT,) * 99 + ahead, ("in", 0, (119,), ((1,),))))
+        self.assert_all(True, down, ALONG, 0, ("less", 0, (OUT,) + tuple([("in", 0, (at,), ()) for at in range(99)]),
+                                               ("in", 0, (99,), ((1,),))))
+
+    def test_tests_where_the_first_purse_grows(self):
+        self.assert_all(False, TESTED, ALONG, 0, ("in", 0, (0,), ((1,),)))
+        self.assert_all(False, TESTED, ALONG, 0, ("rest", 0, (("in", 0, (0,), ((2,),)), OUT)))
+        self.assert_all(False, TESTED, ALONG, 0, ("less", 0, (("in", 0, (0,), ()),), ("in", 0, (1,), ((1,),))))
+        self.assert_all(False, TESTED, ALONG, 0, ("less", 0, (("in", 0, (0,), ()), ("in", 0, (1,), ())), OUT))
+        quarter, up = (0, (0, 0), ((1, 0), (0, 1))), (0, (0, 0), ((0, 1),))
+        self.assert_all(False, TESTED, quarter, 0, ("in", 0, (0, 0), ((1, 0), (0, 1))))
+        self.assert_all(True, TESTED, quarter, 0, ("less", 0, (("in", 0, (0, 0), ((0, 1),)),), OUT))
+        self.assert_all(True, TESTED, up, 0, ("in", 0, (0,), ((1,),)))
+
+    def test_comparisons_near_the_bound(self):
+        quarter = (0, (0, 0), ((1, 0), (0, 1)))
+        program = (1, ((0, 0, 1, 1),), ())
+
+        def compared_at(at, many):
+            low = ("in", 0, (at + 1, 1), ((many, 1), (0, 1)))
+            return ("compare", low, ("in", 0, (at + 1 + many, 1), ((many, 0), (many, 1))))
+        for many, told in ((30, True), (50000, True), (50001, False)):
+            tree = ("rest", 0, tuple([compared_at(at, many) for at in range(many)]))
+            self.assert_all(told, program, quarter, 0, tree)
+        trees = [compared_at(at, 30) for at in range(30)]
+        for at in (0, 17, 29):
+            for wrong in (("compare", trees[at][2], trees[at][1]), trees[at][:2], trees[at] + (OUT,), trees[at - 1],
+                          OUT):
+                self.assert_all(False, program, quarter, 0, ("rest", 0, tuple(trees[:at] + [wrong] + trees[at + 1:])))
 
     def test_many_right_leaves(self):
         def leaves(many):
